@@ -1,0 +1,1 @@
+"""Markscript: works marked by schemes that are written in a language."""
