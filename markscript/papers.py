@@ -58,12 +58,15 @@ def check_paper(paper):
         raise BadPaper(len(paper), ())
 
 
+def parts_of(paper, scheme):
+    """The schemes within a scheme, in turn; of a use the used one."""
+    return [paper[scheme[1]]] if scheme[0] == "use" else within(scheme)
+
+
 def words_in(paper, scheme):
     """The words of a scheme, with what it uses, as often as they stand there."""
-    if scheme[0] == "use":
-        return words_in(paper, paper[scheme[1]])
     words = [word_in(scheme)] if word_in(scheme) else []
-    for inner in within(scheme):
+    for inner in parts_of(paper, scheme):
         words.extend(words_in(paper, inner))
     return words
 

@@ -103,11 +103,16 @@ def rows_of(paper, scheme, where, view):
             return rows_of(paper, paper[number], where + (0,), view)
 
 
+def rows_by(paper, work):
+    """The rows that steps, of however many, earn by a paper; both were looked through already."""
+    return rows_of(paper, paper[0], (), View(work, 0, (RIGHT,)))
+
+
 def earned(paper, work):
     """The rows (place, points, where) that a work earns by a paper, in turn."""
     check_paper(paper)
     check_work(work)
-    return rows_of(paper, paper[0], (), View(work, 0, (RIGHT,)))
+    return rows_by(paper, work)
 
 
 def marked(paper, work):

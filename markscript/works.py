@@ -28,8 +28,3 @@ def check_work(work):
         if step[1] == CARRIED and not went_wrong:
             raise BadWork(number)
         went_wrong = went_wrong or step[1] == WRONG
-
-
-def work_order(work):
-    """What works are sorted by: fewer steps first, of as many the lesser list of texts."""
-    return (len(work), list(work))

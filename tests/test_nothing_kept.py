@@ -3,7 +3,10 @@
 import unittest
 from copy import deepcopy
 
+from markscript.deciding import earnable, parted, span
 from markscript.errors import BadPaper, BadWork
+from markscript.machines import made, walked
+from markscript.notes import read, written, written_work
 from markscript.papers import words_of
 from markscript.reading import earned, marked
 from tests.helpers import refusal
@@ -16,6 +19,15 @@ WORK = ["dw", "ac", "ar", "br", "ar"]
 ROWS = [(4, 2, (0, 0, 0, 0, 0, 0)), (3, 1, (0, 0, 0, 0, 0, 1, 0))]
 
 
+def lists_in(told):
+    """All lists in what is told, that itself among them."""
+    found = [told] if isinstance(told, list) else []
+    if isinstance(told, (list, tuple)):
+        for part in told:
+            found.extend(lists_in(part))
+    return found
+
+
 class HandedInTest(unittest.TestCase):
 
     def test_nothing_that_is_handed_in_is_changed(self):
@@ -25,7 +37,15 @@ class HandedInTest(unittest.TestCase):
         words_of(paper)
         earned(paper, work)
         marked(paper, work)
-        self.assertEqual((paper, work), (before, WORK))
+        machine = made(paper)
+        machine_before = deepcopy(machine)
+        walked(machine, work)
+        parted(paper, PAPER)
+        span(paper, work)
+        earnable(paper)
+        written(paper)
+        written_work(work)
+        self.assertEqual((paper, work, machine), (before, WORK, machine_before))
 
     def test_a_work_may_be_changed_later(self):
         work = ["ar"]
@@ -50,6 +70,37 @@ class ToldTest(unittest.TestCase):
             self.assertEqual(earned(PAPER, WORK), ROWS)
             self.assertEqual(marked(PAPER, WORK), 3)
 
+    def test_lists_within_what_is_told_may_be_changed(self):
+        for ask in (
+            lambda: made(PAPER), lambda: span(PAPER, []), lambda: span(PAPER, WORK), lambda: earnable(PAPER),
+            lambda: parted(PAPER, PAPER[1:]), lambda: parted((("step", "a", 1),), PAPER), lambda: words_of(PAPER),
+        ):
+            due = deepcopy(ask())
+            for change in (list.clear, list.reverse, lambda told: told.append("zz")):
+                for within in lists_in(ask()):
+                    change(within)
+                    self.assertEqual(ask(), due)
+
+    def test_no_list_is_told_twice_at_once(self):
+        for told in (
+            made(PAPER), span((("step", "a", 1),), ["ar"]), span((("most", 0, ("step", "a", 1)),), []),
+            earnable((("all", (("step", "a", 1), ("step", "a", 2))),)), earnable(PAPER),
+        ):
+            lists = lists_in(told)
+            self.assertEqual(len({id(within) for within in lists}), len(lists))
+
+    def test_a_machine_that_is_told_may_be_changed_behind_a_walk(self):
+        machine = made(PAPER)
+        self.assertEqual(walked(machine, WORK), 3)
+        machine[2][:] = [9] * len(machine[2])
+        self.assertEqual(walked(machine, WORK), 9)
+        self.assertEqual(walked(made(PAPER), WORK), 3)
+
+    def test_a_paper_that_was_read_stands_by_itself(self):
+        text = written(PAPER)
+        self.assertEqual(read(text), PAPER)
+        self.assertEqual(made(read(text)), made(PAPER))
+
     def test_an_empty_list_that_is_told_may_be_changed(self):
         for paper in (PAPER, (("step", "a", 1),), (("most", 0, ("step", "a", 1)),), (("seen", "h", ("step", "g", 1)),)):
             for work in ([], ["gr"]):
@@ -63,6 +114,9 @@ class ToldTest(unittest.TestCase):
             self.assertEqual(words_of(PAPER), ["a", "b", "c", "d"])
             self.assertEqual(earned(PAPER, WORK), ROWS)
             self.assertEqual(marked(PAPER, WORK), 3)
+            self.assertEqual(walked(made(PAPER), WORK), 3)
+            self.assertEqual(span(PAPER, WORK), (3, [], 4, ["cr"]))
+            self.assertEqual(parted(PAPER, PAPER), None)
 
     def test_papers_and_works_do_not_touch_each_other(self):
         other = (("step", "a", 9),)

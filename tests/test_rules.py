@@ -19,6 +19,13 @@ BUILTINS = (
     "NotImplemented"
 ).split()
 DOUBLE_UNDERSCORES = ("__init__",)
+METHODS = (
+    "append clear copy count endswith extend find get index insert isalnum isalpha isdigit islower isspace isupper items "
+    "join keys ljust lower lstrip partition pop remove replace reverse rfind rjust rpartition rsplit rstrip setdefault "
+    "split splitlines startswith strip update upper values zfill bit_length isascii isdecimal"
+).split()
+AT_ONCE = ("zip", "enumerate", "reversed", "range", "items", "keys", "values")
+ITERATING = ("list", "tuple", "dict", "sorted", "sum", "any", "all", "enumerate", "zip", "bytes")
 
 
 def walked(path):
@@ -101,3 +108,89 @@ class NamesTest(unittest.TestCase):
                 if isinstance(part, ast.Constant):
                     self.assertNotIsInstance(part.value, (float, complex), path)
                     self.assertNotIn("%", part.value if isinstance(part.value, str) else "", path)
+
+
+def called_name(part):
+    """The name of the function or method that a part of a file calls; None, if it calls none by name."""
+    if not isinstance(part, ast.Call):
+        return None
+    return part.func.id if isinstance(part.func, ast.Name) else getattr(part.func, "attr", None)
+
+
+def iterated_at_once(tree):
+    """The parts of a file that are iterated where they stand."""
+    found = []
+    for part in ast.walk(tree):
+        if isinstance(part, (ast.For, ast.comprehension)):
+            found.append(part.iter)
+        elif called_name(part) == "reversed" and called_name(part.args[0]) == "range":
+            found.append(part.args[0])
+        elif called_name(part) in ITERATING and part.args:
+            found.extend(part.args if called_name(part) == "zip" else part.args[:1])
+    return found
+
+
+def methods_in(tree):
+    """The methods of a file's classes."""
+    classes = [part for part in tree.body if isinstance(part, ast.ClassDef)]
+    return {part.name for one in classes for part in one.body if isinstance(part, ast.FunctionDef)}
+
+
+class WholePackageTest(unittest.TestCase):
+
+    TREES = {path.stem: ast.parse(path.read_text(encoding="utf-8")) for path in FILES}
+
+    def test_no_name_is_a_method_and_an_attribute(self):
+        methods, attributes = set(), set()
+        for tree in self.TREES.values():
+            methods |= methods_in(tree)
+            stored = [part for part in ast.walk(tree) if isinstance(part, ast.Attribute)]
+            attributes |= {part.attr for part in stored if isinstance(part.ctx, ast.Store)}
+        self.assertEqual(methods & attributes, set())
+
+    def test_no_name_in_a_function_is_an_import_or_a_class_of_its_file(self):
+        for name, tree in self.TREES.items():
+            top = {part.name for part in tree.body if isinstance(part, ast.ClassDef)}
+            for part in tree.body:
+                if isinstance(part, ast.ImportFrom):
+                    top |= {one.asname or one.name for one in part.names}
+            for part in ast.walk(tree):
+                if not isinstance(part, ast.ClassDef):
+                    self.assertEqual(set(bound_names(part)) & top, set(), name)
+
+    def test_each_import_names_the_file_that_defines_the_name_and_is_used(self):
+        for name, tree in self.TREES.items():
+            used = {part.id for part in ast.walk(tree) if isinstance(part, ast.Name)}
+            for part in tree.body:
+                if isinstance(part, ast.ImportFrom):
+                    defined = self.TREES[part.module.partition(".")[2]].body
+                    names = [bound for one in defined for bound in bound_names(one)]
+                    names += [target.id for one in defined if isinstance(one, ast.Assign) for target in one.targets]
+                    for one in part.names:
+                        self.assertIn(one.name, names, name)
+                        self.assertIn(one.asname or one.name, used, name)
+
+    def test_no_two_files_import_from_each_other(self):
+        waiting = {}
+        for name, tree in self.TREES.items():
+            imports = [part.module for part in tree.body if isinstance(part, ast.ImportFrom)]
+            waiting[name] = {module.partition(".")[2] for module in imports}
+        while waiting:
+            ready = [name for name in waiting if not waiting[name] & set(waiting)]
+            self.assertNotEqual(ready, [], waiting)
+            for name in ready:
+                del waiting[name]
+
+    def test_what_is_iterated_at_once_is_not_stored(self):
+        for name, tree in self.TREES.items():
+            iterated = [id(part) for part in iterated_at_once(tree)]
+            for part in ast.walk(tree):
+                if called_name(part) in AT_ONCE:
+                    self.assertIn(id(part), iterated, (name, part.lineno))
+
+    def test_methods_are_those_of_the_language_or_own_ones(self):
+        own = {method for tree in self.TREES.values() for method in methods_in(tree)}
+        for name, tree in self.TREES.items():
+            for part in ast.walk(tree):
+                if isinstance(part, ast.Call) and isinstance(part.func, ast.Attribute):
+                    self.assertIn(part.func.attr, own | set(METHODS), (name, part.lineno))

@@ -2,8 +2,8 @@
 
 import unittest
 
+from markscript.deciding import span
 from markscript.reading import earned, marked
-from markscript.works import work_order
 from tests.helpers import OTHERS, PAPER, assert_bad_work
 
 WORDS = "abcdefgh"
@@ -70,22 +70,26 @@ class CarriedTest(unittest.TestCase):
 
 
 class OrderTest(unittest.TestCase):
+    """Of the works that lead to the most points the least one is told."""
 
-    def test_fewer_steps_come_first_and_of_as_many_the_lesser_texts(self):
-        rising = [
-            [], ["ar"], ["aw"], ["br"], ["hw"], ["ar", "ar"], ["ar", "hw"], ["aw", "ac"], ["aw", "ar"], ["br", "ar"],
-            ["ar", "ar", "ar"],
-        ]
-        self.assertEqual(sorted(rising[::-1], key=work_order), rising)
-        for one, other in zip(rising, rising[1:]):
-            self.assertLess(work_order(one), work_order(other))
+    def assert_least(self, scheme, work, ahead=()):
+        least, fewest, most, steps = span((scheme,), list(ahead))
+        self.assertEqual(steps, work)
+        self.assertEqual(marked((scheme,), list(ahead) + steps), most)
 
-    def test_the_same_works_come_alike(self):
-        self.assertEqual(work_order(["aw", "bc"]), work_order(["aw", "bc"]))
+    def test_fewer_steps_come_first(self):
+        self.assert_least(("best", (("behind", "a", ("step", "a", 1)), ("step", "h", 1))), ["hr"])
+        self.assert_least(("best", (("behind", "a", ("behind", "a", ("step", "a", 2))), ("seen", "h", ("step", "g", 2)))),
+                          ["gr", "hr"])
 
-    def test_a_work_is_neither_changed_nor_kept(self):
-        work = ["aw", "bc"]
-        key = work_order(work)
-        self.assertEqual(work, ["aw", "bc"])
-        work.append("ar")
-        self.assertEqual(key, work_order(["aw", "bc"]))
+    def test_of_as_many_the_lesser_texts_come_first(self):
+        self.assert_least(("best", (("step", "h", 1), ("step", "b", 1), ("step", "c", 1))), ["br"])
+        self.assert_least(("all", (("step", "c", 1), ("step", "a", 1), ("step", "b", 1))), ["ar", "br", "cr"])
+        self.assert_least(("best", (("behind", "b", ("step", "a", 1)), ("behind", "a", ("step", "h", 1)))), ["ar", "hr"])
+
+    def test_a_carried_step_comes_ahead_of_a_right_one_and_that_ahead_of_a_wrong_one(self):
+        self.assert_least(("carry", ("step", "a", 1)), ["ac"], ["hw"])
+        self.assert_least(("step", "a", 1), ["ar"], ["hw"])
+        self.assert_least(("seen", "a", ("step", "b", 1)), ["ar", "br"])
+        self.assert_least(("seen", "a", ("step", "b", 1)), ["ac", "br"], ["hw"])
+        self.assert_least(("carry", ("behind", "b", ("step", "a", 1))), ["br", "ar"])
